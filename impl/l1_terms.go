@@ -104,17 +104,6 @@ func withinLimit(n int, limit int) bool {
 	return -limit <= n && n <= limit
 }
 
-// commonDivisor returns the greatest common divisor, which is not negative.
-func commonDivisor(a int, b int) int {
-	for b != 0 {
-		a, b = b, a%b
-	}
-	if a < 0 {
-		return -a
-	}
-	return a
-}
-
 // TermValid reports whether a term is valid.
 func TermValid(t Term) bool {
 	for _, n := range t.multiples()[:Vars] {
