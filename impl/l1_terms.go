@@ -74,10 +74,14 @@ func (m multiples) times(k int) multiples {
 	return result
 }
 
-func (m multiples) without(v int) multiples {
+func (m multiples) with(v int, coef int) multiples {
 	result := m.copied()
-	result[v] = 0
+	result[v] = coef
 	return result
+}
+
+func (m multiples) without(v int) multiples {
+	return m.with(v, 0)
 }
 
 func (m multiples) swapped(v int, w int) multiples {
