@@ -1119,16 +1119,22 @@ func TestCertifySystem(t *testing.T) {
 	}
 }
 
-// wantFreshSteps looks whether steps and the lists within them share memory, unused capacity included.
-func wantFreshSteps(t *testing.T, what string, proofs ...[]impl.Step) {
-	t.Helper()
+// onceOnly returns a function that looks whether it is shown no place in memory twice.
+func onceOnly(t *testing.T, what string) func(place any) {
 	seen := map[any]bool{}
-	see := func(place any) {
+	return func(place any) {
+		t.Helper()
 		if seen[place] {
 			t.Errorf("%s: memory is shared", what)
 		}
 		seen[place] = true
 	}
+}
+
+// wantFreshSteps looks whether steps and the lists within them share memory, unused capacity included.
+func wantFreshSteps(t *testing.T, what string, proofs ...[]impl.Step) {
+	t.Helper()
+	see := onceOnly(t, what)
 	for _, steps := range proofs {
 		steps = steps[:cap(steps)]
 		for i := range steps {
