@@ -1001,10 +1001,8 @@ func TestSolutionsOf(t *testing.T) {
 			for c := -100; c <= 100; c++ {
 				what := fmt.Sprintf("SolutionsOf(%d, %d, %d)", a, b, c)
 				got, ok := impl.SolutionsOf(a, b, c)
-				if (a+b+c)%3 == 0 || a*b == 0 {
-					want, can := slowSolutions(a, b, c)
-					wantCones(t, what, got, ok, want, can)
-				}
+				want, can := slowSolutions(a, b, c)
+				wantCones(t, what, got, ok, want, can)
 				for _, k := range got {
 					if !impl.ConeValid(k) {
 						t.Errorf("%s has the cone %s, which is not valid", what, slowConeText(k))
